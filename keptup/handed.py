@@ -9,6 +9,11 @@ ONE = 2
 FACT = 3
 GONE = 4
 ASK = 5
+TARGET = 6
+MADE = 7
+SURE = 8
+WHY = 9
+STATE = 10
 
 
 class NoSuchCall(ValueError):
@@ -27,6 +32,16 @@ def answer(house, call, numbers, lists):
         return house.gone(numbers[0], numbers[1], numbers[2])
     if call == ASK:
         return house.ask(lists[0], lists[1:])
+    if call == TARGET:
+        return house.target()
+    if call == MADE:
+        return house.made()
+    if call == SURE:
+        return house.sure()
+    if call == WHY:
+        return house.why(numbers[0], numbers[1], numbers[2])
+    if call == STATE:
+        return house.state()
     raise NoSuchCall("no such call")
 
 

@@ -7,23 +7,34 @@ grows with the facts and not with the pairs of facts.
 from keptup.atoms import places_of
 
 
-def fits(fact, atom):
-    """Whether the fact alone matches the atom alone."""
-    return fact[0] == atom[0] and (atom[1] != atom[2] or fact[1] == fact[2])
+def fitting(facts, atom):
+    """The facts that match the atom, each by itself."""
+    in_table = [fact for fact in facts if fact[0] == atom[0]]
+    if atom[1] != atom[2]:
+        return in_table
+    return [fact for fact in in_table if fact[1] == fact[2]]
 
 
-def values_in(fact, atom, places):
-    """The values that the fact gives to these places of the atom."""
-    return tuple([fact[1] if place == atom[1] else fact[2] for place in places])
+def looks(facts, atom, places):
+    """Of each of the facts the values that it gives to these places of the atom: 2 at most."""
+    slots = [1 if place == atom[1] else 2 for place in places]
+    # Written out for each length: this is gone through more often than all else.
+    if len(slots) == 0:
+        return [() for fact in facts]
+    first = slots[0]
+    if len(slots) == 1:
+        return [(fact[first],) for fact in facts]
+    second = slots[1]
+    return [(fact[first], fact[second]) for fact in facts]
 
 
 def grouped(facts, atom, shared, wanted):
     """For the values in the shared places: the values in the wanted places, each once, in the facts' order."""
+    fit = fitting(facts, atom)
     groups = {}
-    for fact in facts:
-        if fits(fact, atom):
-            group = groups.setdefault(values_in(fact, atom, shared), {})
-            group[values_in(fact, atom, wanted)] = True
+    for key, look in zip(looks(fit, atom, shared), looks(fit, atom, wanted)):
+        group = groups.setdefault(key, {})
+        group[look] = True
     return groups
 
 
@@ -43,16 +54,12 @@ def joined(facts, atoms, wanted):
         of_second = [place for place in wanted if place not in of_first]
         shared = [place for place in places_of([first]) if place in second[1:]]
         seconds = grouped(facts, second, shared, of_second)
-    pairs = []
+    fit = fitting(facts, first)
     seen = {}
-    for fact in facts:
-        if fits(fact, first):
-            key = values_in(fact, first, shared)
-            look = (key, values_in(fact, first, of_first))
-            if key in seconds and look not in seen:
-                seen[look] = True
-                pairs.append((look[1], seconds[key]))
-    return pairs
+    for key, look in zip(looks(fit, first, shared), looks(fit, first, of_first)):
+        if key in seconds:
+            seen[(key, look)] = True
+    return [(look, seconds[key]) for key, look in seen]
 
 
 def matches(facts, atoms):

@@ -29,22 +29,36 @@ def apart_by(one_rule, facts):
 
 
 def first_apart(one_rules, facts):
-    """The two values by which the first one-rule that isn't kept isn't kept, or None."""
-    for one_rule in one_rules:
+    """Which one-rule is the first that isn't kept, and its two values, the lesser first; or None."""
+    for number, one_rule in enumerate(one_rules):
         two = apart_by(one_rule, facts)
         if two is not None:
-            return two
+            return (number, min(two), max(two))
     return None
 
 
-def made_one(target, one_rules):
-    """The target's facts made one, or None if it clashes."""
-    facts = target
-    two = first_apart(one_rules, facts)
-    while two is not None:
+class MadeOne:
+    """The target made one, as far as it goes: its facts, how often two were made one, and the clash or None.
+
+    A clash is the one-rule by which it clashes, and the two values, the lesser first.
+    """
+
+    def __init__(self, facts):
+        self.facts = facts
+        self.times = 0
+        self.clash = None
+
+
+def made_one(target_facts, one_rules):
+    """The target's facts made one."""
+    outcome = MadeOne(target_facts)
+    apart = first_apart(one_rules, outcome.facts)
+    while apart is not None:
         # Unknown values are above all known ones: if the greater one is known, both are.
-        if is_known(max(two)):
-            return None
-        facts = put_as(facts, max(two), min(two))
-        two = first_apart(one_rules, facts)
-    return facts
+        if is_known(apart[2]):
+            outcome.clash = apart
+            return outcome
+        outcome.facts = put_as(outcome.facts, apart[2], apart[1])
+        outcome.times += 1
+        apart = first_apart(one_rules, outcome.facts)
+    return outcome

@@ -33,10 +33,10 @@ def known_rows(facts, atoms, places):
     return rows
 
 
-def sure_rows(made_facts, places, alternatives):
-    """The rows that are sure, in order, by what's made one; none if that is None, for then it clashes."""
+def sure_rows(outcome, places, alternatives):
+    """The rows that are sure, in order, by what's made one; none if it clashes."""
     rows = []
-    if made_facts is not None:
+    if outcome.clash is None:
         for atoms in alternatives:
-            rows.extend(known_rows(made_facts, atoms, places))
+            rows.extend(known_rows(outcome.facts, atoms, places))
     return sorted(set(rows))

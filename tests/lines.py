@@ -36,6 +36,26 @@ def ask(places, *alternatives):
     return laid_out(5, [], [places] + list(alternatives))
 
 
+def target():
+    return laid_out(6, [], [])
+
+
+def made():
+    return laid_out(7, [], [])
+
+
+def sure():
+    return laid_out(8, [], [])
+
+
+def why(table, first, second):
+    return laid_out(9, [table, first, second], [])
+
+
+def state():
+    return laid_out(10, [], [])
+
+
 def line_of(calls):
     return [number for call in calls for number in call]
 
@@ -61,3 +81,15 @@ def told(*calls):
 def last(*calls):
     """What is answered to the last of the calls."""
     return told(*calls)[-1]
+
+
+def tupled(numbers, length):
+    """The numbers as tuples of this length, one behind another."""
+    return [tuple(numbers[at:at + length]) for at in range(0, len(numbers), length)]
+
+
+def target_after(*calls):
+    """The target's facts behind the calls."""
+    given = last(*calls, target())
+    assert len(given) == 1 + 3 * given[0], "as many facts as are told"
+    return tupled(given[1:], 3)

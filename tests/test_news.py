@@ -1,9 +1,7 @@
-"""The news: its five numbers, one after another, and the unknowns that are given."""
+"""The news: its five numbers, one after another."""
 
 import unittest
 
-from keptup.house import House
-from keptup.questions import sure_rows
 from lines import ask, fact, gone, last, one, rule, told
 
 COPIED = rule([0, 0, 1], [2, 0, 1])
@@ -99,84 +97,6 @@ class ComeAndLeft(unittest.TestCase):
                  gone(0, 1, 2)]
         self.assertEqual(all_news(*calls)[1:], [[1, 0, 0, 0, 0], [0] * 5, [1, 0, 0, 0, 0], [1, 0, 0, 0, 0],
                                                 [0, 1, 0, 0, 0]])
-
-
-class Unknowns(unittest.TestCase):
-    """Names show in no answer of these calls yet, so the house itself is looked at."""
-
-    def test_from_100_on_in_the_order_of_the_open_places(self):
-        house = House()
-        house.rule([0, 0, 1], [3, 4, 2, 2, 2, 3])
-        house.fact(0, 7, 8)
-        self.assertEqual(house.target_facts, [(2, 101, 102), (3, 100, 101)])
-
-    def test_names_stay(self):
-        house = House()
-        house.rule([0, 0, 1], [2, 0, 2])
-        house.fact(0, 5, 5)
-        house.fact(0, 1, 1)
-        self.assertEqual(house.target_facts, [(2, 1, 101), (2, 5, 100)])
-        house.rule([0, 0, 1], [3, 2, 0])
-        self.assertEqual(house.target_facts, [(2, 1, 101), (2, 5, 100), (3, 102, 1), (3, 103, 5)])
-        house.one(0, 2, [2, 0, 1, 2, 2, 3])
-        house.fact(1, 1, 1)
-        self.assertEqual(house.target_facts, [(2, 1, 101), (2, 5, 100), (3, 102, 1), (3, 103, 5)])
-
-    def test_a_fact_that_comes_again_is_given_new_ones(self):
-        house = House()
-        house.rule([0, 0, 1], [2, 0, 2])
-        house.fact(0, 1, 2)
-        house.fact(0, 3, 4)
-        house.gone(0, 1, 2)
-        house.fact(0, 1, 2)
-        self.assertEqual(house.target_facts, [(2, 1, 102), (2, 3, 101)])
-        house.gone(0, 3, 4)
-        house.fact(0, 3, 4)
-        self.assertEqual(house.target_facts, [(2, 1, 102), (2, 3, 103)])
-
-    def test_by_the_rules_order_then_by_the_matches(self):
-        house = House()
-        house.fact(0, 2, 9)
-        house.fact(0, 1, 9)
-        house.rule([0, 0, 1, 0, 2, 1], [2, 0, 3, 2, 2, 3])
-        self.assertEqual(house.unknowns_of, {(0, (1, 9, 1)): (100,), (0, (1, 9, 2)): (101,),
-                                             (0, (2, 9, 1)): (102,), (0, (2, 9, 2)): (103,)})
-        house.rule([0, 1, 0], [3, 0, 2])
-        house.fact(0, 0, 9)
-        self.assertEqual(house.unknowns_of[(0, (0, 9, 0))], (106,))
-        self.assertEqual(house.unknowns_of[(0, (2, 9, 0))], (110,))
-        self.assertEqual(house.unknowns_of[(1, (0, 9))], (111,))
-
-    def test_matches_stand_by_their_facts_not_by_their_places(self):
-        house = House()
-        house.fact(0, 1, 8)
-        house.fact(0, 2, 7)
-        house.rule([0, 4, 0], [2, 4, 1])
-        self.assertEqual(house.target_facts, [(2, 1, 100), (2, 2, 101)])
-        house = House()
-        house.fact(1, 1, 8)
-        house.fact(0, 2, 7)
-        house.fact(1, 0, 9)
-        house.rule([1, 0, 1, 0, 2, 3], [2, 0, 4])
-        self.assertEqual(house.target_facts, [(2, 0, 100), (2, 1, 101)])
-
-    def test_a_rule_without_open_places_is_given_none(self):
-        house = House()
-        house.rule([0, 0, 1], [2, 0, 1])
-        house.fact(0, 1, 2)
-        house.rule([0, 0, 1], [3, 0, 2])
-        self.assertEqual(house.target_facts, [(2, 1, 2), (3, 1, 100)])
-
-    def test_a_refusal_gives_none(self):
-        house = House()
-        house.rule([0, 0, 1], [2, 0, 2])
-        house.fact(0, 1, 2)
-        house.fact(0, 1, 2)
-        house.fact(2, 1, 2)
-        house.rule([0, 0, 1], [2, 0, 5])
-        house.gone(0, 2, 1)
-        house.fact(0, 3, 4)
-        self.assertEqual(house.target_facts, [(2, 1, 100), (2, 3, 101)])
 
 
 class Clash(unittest.TestCase):
@@ -363,14 +283,6 @@ class Sure(unittest.TestCase):
     def test_a_question_asked_while_it_clashes(self):
         calls = [COPIED, SAME_FIRST_SAME_SECOND, fact(0, 1, 2), fact(0, 1, 3), ask([0], [2, 0, 1]), gone(0, 1, 2)]
         self.assertEqual(self.sure(*calls)[-1], [1, 0])
-
-    def test_rows_stand_rising_with_their_values_in_the_order_of_the_places(self):
-        house = House()
-        house.rule([0, 0, 1], [2, 0, 1])
-        for values in ([1, 9], [2, 8], [3, 8]):
-            house.fact(0, *values)
-        self.assertEqual(house.ask([1, 0], [[2, 0, 1]]), [0])
-        self.assertEqual(sure_rows(house.made_facts, house.places, house.alternatives), [(8, 2), (8, 3), (9, 1)])
 
 
 if __name__ == "__main__":

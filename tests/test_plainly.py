@@ -6,154 +6,13 @@ import unittest
 
 from keptup.handed import answers
 from keptup.house import House
-from lines import ask, begins, fact, gone, line_of, one, rule, split
+from lines import ask, begins, fact, gone, line_of, made, one, rule, split, state, sure, target, tupled, why
+from plain import Plain, rows_of
 
-
-def atoms_in(numbers, tables):
-    """The atoms, or None if the numbers aren't so formed."""
-    if len(numbers) not in (3, 6):
-        return None
-    atoms = [tuple(numbers[at:at + 3]) for at in range(0, len(numbers), 3)]
-    good = all(table in tables and one in range(5) and other in range(5) for table, one, other in atoms)
-    return atoms if good else None
-
-
-def all_matches(facts, atoms):
-    """All matches in order, each as a dict of its values by place."""
-    found = []
-    for chosen in itertools.product(sorted(facts), repeat=len(atoms)):
-        values = {}
-        fitting = True
-        for (table, one_place, other_place), (in_table, one_value, other_value) in zip(atoms, chosen):
-            fitting = fitting and table == in_table
-            fitting = fitting and values.setdefault(one_place, one_value) == one_value
-            fitting = fitting and values.setdefault(other_place, other_value) == other_value
-        if fitting:
-            found.append(values)
-    return found
-
-
-def places_in(atoms):
-    return list(dict.fromkeys(place for atom in atoms for place in atom[1:]))
-
-
-def rows_of(facts, places, alternatives):
-    return {tuple(values[place] for place in places) for atoms in alternatives for values in all_matches(facts, atoms)}
-
-
-class Plain:
-    """The house, told from the document alone."""
-
-    def __init__(self):
-        self.rules, self.ones, self.source, self.question = [], [], set(), ([], [])
-        self.given, self.after, self.target, self.clash, self.solved = {}, 100, set(), False, set()
-
-    def begins(self):
-        self.__init__()
-        return [0]
-
-    def rule(self, body, head):
-        if atoms_in(body, (0, 1)) is None or atoms_in(head, (2, 3)) is None:
-            return [-1]
-        if len(self.rules) >= 3:
-            return [-7]
-        self.rules.append((atoms_in(body, (0, 1)), atoms_in(head, (2, 3))))
-        return [len(self.rules) - 1] + self.changed()
-
-    def one(self, first, second, body):
-        atoms = atoms_in(body, (2, 3))
-        if atoms is None or first == second or not {first, second} <= set(places_in(atoms)):
-            return [-1]
-        if len(self.ones) >= 3:
-            return [-7]
-        self.ones.append((first, second, atoms))
-        return [len(self.ones) - 1] + self.changed()
-
-    def fact(self, *new):
-        if new[0] not in (0, 1) or new[1] >= 20 or new[2] >= 20:
-            return [-1]
-        if new in self.source:
-            return [-4]
-        if len(self.source) >= 6:
-            return [-7]
-        self.source.add(new)
-        return [len(self.source)] + self.changed()
-
-    def gone(self, *old):
-        if old not in self.source:
-            return [-2]
-        self.source.remove(old)
-        return [len(self.source)] + self.changed()
-
-    def ask(self, places, *alternatives):
-        atoms = [atoms_in(numbers, (2, 3)) for numbers in alternatives]
-        if len(places) > 2 or len(atoms) > 2 or None in atoms:
-            return [-1]
-        if any(place not in places_in(alternative) for place in places for alternative in atoms):
-            return [-1]
-        self.question = (places, atoms)
-        return [0]
-
-    def sure(self):
-        if self.clash:
-            return set()
-        return {row for row in rows_of(self.solved, *self.question) if all(value < 100 for value in row)}
-
-    def changed(self):
-        target, sure = self.target, self.sure()
-        self.hand_on()
-        self.make_one()
-        return [len(self.target - target), len(target - self.target), int(self.clash),
-                len(self.sure() - sure), len(sure - self.sure())]
-
-    def hand_on(self):
-        there = {}
-        self.target = set()
-        for which, (body, head) in enumerate(self.rules):
-            closed = places_in(body)
-            for values in all_matches(self.source, body):
-                match = (which, tuple(values[place] for place in closed))
-                if match not in self.given:
-                    names = {}
-                    for place in places_in(head):
-                        if place not in closed:
-                            names[place] = self.after
-                            self.after += 1
-                    self.given[match] = names
-                there[match] = self.given[match]
-                full = {**values, **there[match]}
-                self.target |= {(table, full[one_place], full[other]) for table, one_place, other in head}
-        self.given = there
-
-    def first_not_kept(self):
-        for first, second, atoms in self.ones:
-            for values in all_matches(self.solved, atoms):
-                if values[first] != values[second]:
-                    return sorted([values[first], values[second]])
-        return None
-
-    def make_one(self):
-        self.clash = False
-        self.solved = set(self.target)
-        two = self.first_not_kept()
-        while two is not None:
-            if two[1] < 100:
-                self.clash = True
-                return
-            put = {two[1]: two[0]}
-            self.solved = {(table, put.get(one, one), put.get(other, other)) for table, one, other in self.solved}
-            two = self.first_not_kept()
-
-    def is_solution(self, facts):
-        """Whether these facts of the target are a solution."""
-        for body, head in self.rules:
-            answered = all_matches(facts, head)
-            for values in all_matches(self.source, body):
-                shared = [place for place in places_in(head) if place in values]
-                if not any(all(full[place] == values[place] for place in shared) for full in answered):
-                    return False
-        return all(values[first] == values[second]
-                   for first, second, atoms in self.ones for values in all_matches(facts, atoms))
+LAID_OUT = {"rule": rule, "one": one, "fact": fact, "gone": gone, "ask": ask, "begins": begins,
+            "target": target, "made": made, "sure": sure, "why": why, "state": state}
+KINDS = list(LAID_OUT)
+ONLY_ASKED = [("target", ()), ("made", ()), ("sure", ()), ("why", (2, 0, 1)), ("why", (3, 1, 100)), ("state", ())]
 
 
 class Lines:
@@ -164,6 +23,8 @@ class Lines:
         self.width = self.dice.choice([2, 3, 20])
         self.places = self.dice.choice([2, 3, 5])
         self.handed_in = []
+        # Gone along with, so that why is asked of facts that are there.
+        self.plain = Plain()
 
     def atoms(self, tables):
         if self.dice.random() < 0.03:
@@ -183,8 +44,13 @@ class Lines:
             return tuple(self.dice.choice([0, 1, 2, 19, 20, 100, 4294967295]) for turn in range(3))
         return (self.dice.randrange(2), self.dice.randrange(self.width), self.dice.randrange(self.width))
 
+    def fact_of_the_target(self):
+        """One that may be there or not."""
+        values = list(range(self.width)) + [100, 101, 102, 103, 4294967295]
+        return (self.dice.choice([2, 3]), self.dice.choice(values), self.dice.choice(values))
+
     def call(self):
-        kind = self.dice.choices(["rule", "one", "fact", "gone", "ask", "begins"], [4, 3, 12, 5, 4, 0.15])[0]
+        kind = self.dice.choices(KINDS, [4, 3, 12, 5, 4, 0.15, 1.5, 2, 2, 2, 1])[0]
         if kind == "rule":
             return kind, (self.atoms([0, 1]), self.atoms([2, 3]))
         if kind == "one":
@@ -196,7 +62,9 @@ class Lines:
             return kind, self.handed_in[-1]
         if kind == "gone":
             return kind, self.dice.choice(self.handed_in[-6:] + [self.numbers()])
-        if kind == "begins":
+        if kind == "why":
+            return kind, self.dice.choice(sorted(self.plain.handed_on) * 4 + [self.fact_of_the_target()])
+        if kind != "ask":
             return kind, ()
         alternatives = [self.atoms([2, 3]) for turn in range(self.dice.choice([0, 1, 1, 2, 2, 3]))]
         source = alternatives[0] if alternatives else []
@@ -204,10 +72,12 @@ class Lines:
         return kind, tuple([places] + alternatives)
 
     def calls(self, amount):
-        return [self.call() for turn in range(amount)]
-
-
-LAID_OUT = {"begins": begins, "rule": rule, "one": one, "fact": fact, "gone": gone, "ask": ask}
+        calls = []
+        for turn in range(amount):
+            kind, given = self.call()
+            getattr(self.plain, kind)(*given)
+            calls.append((kind, given))
+        return calls
 
 
 def asked(calls):
@@ -217,6 +87,13 @@ def asked(calls):
 def plainly(calls):
     house = Plain()
     return [getattr(house, kind)(*given) for kind, given in calls]
+
+
+def plain_after(calls):
+    house = Plain()
+    for kind, given in calls:
+        getattr(house, kind)(*given)
+    return house
 
 
 def house_after(calls):
@@ -229,6 +106,23 @@ def house_after(calls):
         else:
             getattr(house, kind)(*given)
     return house
+
+
+def what_is_left(calls):
+    """Calls by which a new house has the rules, the one-rules, the facts and the question of the one behind these."""
+    left = []
+    for (kind, given), answered in zip(calls, asked(calls)):
+        if kind == "begins":
+            left = []
+        elif kind == "gone" and answered[0] >= 0:
+            left.remove(("fact", given))
+        elif kind in ("rule", "one", "fact", "ask") and answered[0] >= 0:
+            left.append((kind, given))
+    return left
+
+
+def known(facts):
+    return [one_fact for one_fact in facts if one_fact[1] < 100 and one_fact[2] < 100]
 
 
 class RandomLines(unittest.TestCase):
@@ -248,22 +142,66 @@ class RandomLines(unittest.TestCase):
                 self.assertLess(len(kept), len(calls))
                 self.assertEqual(asked([calls[at] for at in kept]), [given[at] for at in kept])
 
-    def test_what_is_kept_is_what_is_handed_on_anew_but_for_names(self):
+    def test_what_is_only_asked_changes_nothing(self):
+        for seed in range(1000, 1100):
+            calls = Lines(seed).calls(8)
+            between = []
+            for call in calls:
+                between += [call] + ONLY_ASKED
+            with self.subTest(seed=seed):
+                self.assertEqual(asked(between)[::1 + len(ONLY_ASKED)], asked(calls))
+                self.assertEqual(asked(between), plainly(between))
+
+    def test_the_same_list_twice_gives_the_same_answers(self):
+        for seed in range(1100, 1150):
+            line = line_of([LAID_OUT[kind](*given) for kind, given in Lines(seed).calls(40)])
+            before = list(line)
+            with self.subTest(seed=seed):
+                first = answers(line)
+                self.assertEqual(line, before)
+                self.assertEqual(answers(line), first)
+                self.assertEqual(line, before)
+
+
+class HandedOnAnew(unittest.TestCase):
+    """Whatever has come and gone, what's kept is what's handed on anew, but for its unknowns' names."""
+
+    def test_match_by_match(self):
         for seed in range(600, 700):
-            house = house_after(Lines(seed).calls(40))
-            anew = House()
-            anew.source_facts = list(house.source_facts)
-            anew.rules = list(house.rules)
-            anew.one_rules = list(house.one_rules)
-            anew.news()
+            calls = Lines(seed).calls(40)
+            house = house_after(calls)
+            anew = house_after(what_is_left(calls))
             names = {value: value for value in range(100)}
             for match in anew.unknowns_of:
                 names.update(zip(anew.unknowns_of[match], house.unknowns_of[match]))
             renamed = sorted((table, names[first], names[second]) for table, first, second in anew.target_facts)
             with self.subTest(seed=seed):
-                self.assertEqual(set(anew.unknowns_of), set(house.unknowns_of))
+                self.assertEqual(list(anew.unknowns_of), list(house.unknowns_of))
                 self.assertEqual(renamed, house.target_facts)
-                self.assertEqual(anew.made_facts is None, house.made_facts is None)
+
+    def test_as_it_is_answered(self):
+        clashes = 0
+        for seed in range(600, 800):
+            calls = Lines(seed).calls(40)
+            left = what_is_left(calls)
+            whys = [("why", one_fact) for one_fact in known(plain_after(calls).handed_on)]
+            last_asked = [("target", ()), ("made", ()), ("sure", ()), ("state", ())] + whys
+            kept = asked(calls + last_asked)[len(calls):]
+            anew = asked(left + last_asked)[len(left):]
+            with self.subTest(seed=seed):
+                self.assertEqual(known(tupled(anew[0][1:], 3)), known(tupled(kept[0][1:], 3)))
+                self.assertEqual(anew[0][0], kept[0][0])
+                # By which values it clashes may hang on the names: they stand in the order of the matches.
+                self.assertEqual(anew[1][:1], kept[1][:1])
+                if kept[1][0] != -9:
+                    self.assertEqual(anew[1][:2], kept[1][:2])
+                    self.assertEqual(known(tupled(anew[1][2:], 3)), known(tupled(kept[1][2:], 3)))
+                self.assertEqual(anew[2], kept[2])
+                self.assertEqual(anew[3][:2], kept[3][:2])
+                self.assertEqual(anew[4:], kept[4:])
+            clashes += kept[1][0] == -9
+        self.assertGreater(clashes, 10)
+        self.assertLess(clashes, 150)
 
 
 class Solutions(unittest.TestCase):
@@ -272,30 +210,43 @@ class Solutions(unittest.TestCase):
         for seed in range(700, 800):
             lines = Lines(seed)
             calls = lines.calls(25)
-            house = house_after(calls)
-            plain = Plain()
-            for kind, given in calls:
-                getattr(plain, kind)(*given)
-            self.assertEqual(house.made_facts is None, plain.clash)
+            plain = plain_after(calls)
+            made_one, rows = asked(calls + [("made", ()), ("sure", ())])[-2:]
+            self.assertEqual(made_one[0] == -9, plain.clash is not None)
+            self.assertEqual(rows[0] == -9, plain.clash is not None)
             if plain.clash:
                 continue
-            self.assertTrue(plain.is_solution(set(house.made_facts)))
+            facts = tupled(made_one[2:], 3)
+            width = len(plain.question[0])
+            sure_rows = set(tupled(rows[1:], width)) if width else {()} if rows[0] else set()
+            self.assertEqual(len(sure_rows), rows[0])
+            self.assertTrue(plain.is_solution(set(facts)))
             for turn in range(10):
-                known = {value: lines.dice.choice([value, lines.dice.randrange(20)]) for value in range(100, 2000)}
-                other = {(table, known.get(first, first), known.get(second, second))
-                         for table, first, second in house.made_facts}
+                put = {value: lines.dice.choice([value, lines.dice.randrange(20)]) for value in range(100, 2000)}
+                other = {(table, put.get(first, first), put.get(second, second)) for table, first, second in facts}
                 other.add((2, lines.dice.randrange(20), lines.dice.randrange(20)))
                 if plain.is_solution(other):
                     others += 1
-                    self.assertLessEqual(plain.sure(), rows_of(other, *plain.question))
+                    self.assertLessEqual(sure_rows, rows_of(other, *plain.question))
         self.assertGreater(others, 100)
 
+    def test_a_row_that_is_not_sure_is_missing_in_some_solution(self):
+        # What's made one is a solution, and so it is with other names: no row but the sure ones is in both.
+        for seed in range(800, 900):
+            calls = Lines(seed).calls(25)
+            plain = plain_after(calls)
+            made_one, rows = asked(calls + [("made", ()), ("sure", ())])[-2:]
+            if plain.clash is None:
+                facts = set(tupled(made_one[2:], 3))
+                other = {(fact[0], *[value + (1000 if value >= 100 else 0) for value in fact[1:]]) for fact in facts}
+                self.assertTrue(plain.is_solution(other))
+                in_both = rows_of(facts, *plain.question) & rows_of(other, *plain.question)
+                self.assertEqual(rows, [len(in_both)] + [value for row in sorted(in_both) for value in row])
+
     def test_where_it_clashes_no_facts_of_few_values_are_a_solution(self):
-        plain = Plain()
-        for kind, given in [("rule", ([0, 0, 1], [2, 0, 2, 2, 1, 2])), ("one", (0, 1, [2, 0, 1])),
-                            ("fact", (0, 0, 1))]:
-            getattr(plain, kind)(*given)
-        self.assertTrue(plain.clash)
+        calls = [("rule", ([0, 0, 1], [2, 0, 2, 2, 1, 2])), ("one", (0, 1, [2, 0, 1])), ("fact", (0, 0, 1))]
+        plain = plain_after(calls)
+        self.assertEqual(asked(calls + [("made", ()), ("sure", ())])[3:], [[-9, 0, 0, 1], [-9]])
         possible = [(2, first, second) for first in (0, 1, 100) for second in (0, 1, 100)]
         for amount in range(len(possible) + 1):
             for facts in itertools.combinations(possible, amount):
